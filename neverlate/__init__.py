@@ -1,0 +1,1 @@
+"""Neverlate: deciding whether a job can ever be late."""
