@@ -1,0 +1,143 @@
+"""The interface: every name stands in the file under which the document lists it, with these arguments."""
+
+import ast
+import importlib
+import inspect
+import unittest
+from pathlib import Path
+
+PACKAGE = Path(__file__).resolve().parent.parent / "neverlate"
+
+FUNCTIONS = {
+    "ratio": {
+        "make_ratio": "(top, bottom)",
+        "add_ratios": "(first, second)",
+        "subtract_ratios": "(first, second)",
+        "compare_ratios": "(first, second)",
+        "sum_ratios": "(ratios)",
+        "ratio_text": "(ratio)",
+    },
+    "notation": {"format_system": "(system)", "parse_system": "(text)"},
+    "releases": {
+        "follows": "(task, first, second)",
+        "is_legal": "(task, releases)",
+        "check_releases": "(system, releases)",
+        "due": "(task, release)",
+        "work": "(task, releases)",
+        "work_within": "(task, releases, *, start, end)",
+        "system_work_within": "(system, releases, *, start, end)",
+        "last_due": "(system, releases)",
+        "shift": "(releases, by)",
+        "earliest_next": "(task, release)",
+        "all_jobs": "(system, releases)",
+    },
+    "supply": {
+        "capacity": "(table, slot)",
+        "supply_of_first": "(table, slots)",
+        "supply": "(table, start, end)",
+        "least_supply": "(table, length)",
+        "least_start": "(table, length)",
+        "least_supplies": "(table, length)",
+        "table_share": "(table)",
+        "first_end": "(table, start, wanted)",
+    },
+    "demand": {
+        "rows": "(task, length)",
+        "demand": "(task, length)",
+        "demands": "(task, length)",
+        "system_demands": "(system, length)",
+        "heaviest": "(task, length)",
+    },
+    "circuits": {
+        "circuits": "(task)",
+        "circuit_mean": "(task, circuit)",
+        "best_circuit": "(task)",
+        "share": "(task)",
+    },
+    "weights": {
+        "way_weight": "(task, way, rate)",
+        "weights": "(task)",
+        "check_weights": "(task, rate, numbers)",
+        "linear_bound": "(task)",
+    },
+    "edf": {"run": "(system, releases)", "crowded": "(system, releases)"},
+    "schedules": {
+        "check_schedule": "(system, releases, slots)",
+        "ends_of": "(system, releases, slots)",
+        "late_by": "(system, releases, slots)",
+        "keeps": "(system, releases, slots)",
+        "unused": "(system, slots)",
+    },
+}
+
+METHODS = {
+    ("tasks", "Task"): {
+        "__init__": "(self, name, *, kinds, ways=())",
+        "kind_number": "(self, kind_name)",
+        "cost": "(self, kind_name)",
+        "deadline": "(self, kind_name)",
+        "ways_from": "(self, kind_name)",
+    },
+    ("tasks", "System"): {
+        "__init__": "(self, tasks, *, table)",
+        "task_number": "(self, task_name)",
+        "with_task": "(self, number, task)",
+        "with_table": "(self, table)",
+        "only": "(self, numbers)",
+    },
+    ("edf", "Outcome"): {
+        "__init__": "(self, slots, ends, late)",
+        "served": "(self, task, release)",
+    },
+}
+
+PROPERTIES = {
+    ("tasks", "Task"): ["longest_distance", "latest_deadline"],
+    ("edf", "Outcome"): ["on_time"],
+}
+
+
+def module(name):
+    return importlib.import_module("neverlate." + name)
+
+
+class Interface(unittest.TestCase):
+    def test_functions(self):
+        for file, functions in FUNCTIONS.items():
+            for name, signature in functions.items():
+                with self.subTest((file, name)):
+                    function = getattr(module(file), name)
+                    self.assertTrue(inspect.isfunction(function))
+                    self.assertEqual(function.__module__, "neverlate." + file)
+                    self.assertEqual(str(inspect.signature(function)), signature)
+
+    def test_methods_stand_in_the_class_itself(self):
+        for (file, name), methods in METHODS.items():
+            made = getattr(module(file), name)
+            self.assertEqual(made.__module__, "neverlate." + file)
+            for method, signature in methods.items():
+                with self.subTest((file, name, method)):
+                    self.assertEqual(str(inspect.signature(vars(made)[method])), signature)
+
+    def test_properties(self):
+        for (file, name), properties in PROPERTIES.items():
+            for word in properties:
+                with self.subTest((file, name, word)):
+                    self.assertIsInstance(vars(getattr(module(file), name))[word], property)
+
+    def test_init_defines_nothing(self):
+        tree = ast.parse((PACKAGE / "__init__.py").read_text())
+        self.assertEqual([type(row) for row in tree.body], [ast.Expr])
+        self.assertIsNotNone(ast.get_docstring(tree))
+
+    def test_each_documented_function_and_class_has_a_docstring(self):
+        for file in FUNCTIONS:
+            for name in FUNCTIONS[file]:
+                self.assertTrue(inspect.getdoc(getattr(module(file), name)), name)
+        for file, name in METHODS:
+            made = getattr(module(file), name)
+            self.assertTrue(vars(made)["__doc__"], name)
+
+
+if __name__ == "__main__":
+    unittest.main()
