@@ -37,6 +37,20 @@ class JobQueue:
         # The order of these tuples is that of earliest deadline first.
         self.jobs = []
 
+    def twin(self):
+        """Return a queue with the same jobs that goes its own way."""
+        other = JobQueue()
+        other.jobs = list(self.jobs)
+        return other
+
+    def needs(self):
+        """Return the tuples (task, release, units that it still needs) of the jobs, in their order."""
+        return [(task, release, needed) for _, _, task, release, needed in sorted(self.jobs)]
+
+    def least_due(self):
+        """Return the least due of the jobs, or None without jobs."""
+        return self.jobs[0][0] if self.jobs else None
+
     def tell(self, job):
         """Take a job that is released."""
         heappush(self.jobs, job)

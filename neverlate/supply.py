@@ -23,6 +23,14 @@ def supply(table, start, end):
     return rounds * sum(table) + sums[first_slot + rest] - sums[first_slot]
 
 
+def supplies(table, slots):
+    """Return the supplies from 0 to the instants 0, 1, .., `slots`."""
+    found = [0]
+    for slot in range(slots):
+        found.append(found[-1] + capacity(table, slot))
+    return found
+
+
 def least_supply(table, length):
     """Return the least supply of any window of the length."""
     return min(_windows(table, length))

@@ -68,6 +68,25 @@ FUNCTIONS = {
         "keeps": "(system, releases, slots)",
         "unused": "(system, slots)",
     },
+    "rounds": {
+        "greatest_deadline": "(system)",
+        "greatest_distance": "(system)",
+        "check_rounds": "(system, *, step, horizon)",
+        "rounds": "(system, *, horizon)",
+    },
+    "horizons": {
+        "compare_load": "(system)",
+        "system_bound": "(system)",
+        "decisive_horizon": "(system)",
+    },
+    "misses": {
+        "is_overfull": "(system, *, start, length)",
+        "first_overfull": "(system, *, horizon)",
+        "is_decided": "(system, *, horizon)",
+        "first_miss": "(system, *, horizon)",
+        "check_miss": "(system, miss)",
+    },
+    "verdicts": {"verdict": "(system)", "is_never_late": "(system)"},
 }
 
 METHODS = {
@@ -89,11 +108,23 @@ METHODS = {
         "__init__": "(self, slots, ends, late)",
         "served": "(self, task, release)",
     },
+    ("processor", "Processor"): {
+        "__init__": "(self, system)",
+        "pending": "(self)",
+        "earliest": "(self, name, *, kind)",
+        "release": "(self, name, *, kind)",
+        "step": "(self)",
+        "walk": "(self, count)",
+        "forecast": "(self, count, *, told=())",
+        "admits": "(self, name, *, kind)",
+    },
+    ("misses", "Miss"): {"__init__": "(self, instant, start, releases)"},
 }
 
 PROPERTIES = {
     ("tasks", "Task"): ["longest_distance", "latest_deadline"],
     ("edf", "Outcome"): ["on_time"],
+    ("processor", "Processor"): ["history"],
 }
 
 

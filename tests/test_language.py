@@ -14,8 +14,8 @@ FILES = sorted(path for path in PACKAGE.rglob("*") if "__pycache__" not in path.
 
 BARRED_NODES = (
     ast.Global, ast.AsyncFunctionDef, ast.AsyncFor, ast.AsyncWith, ast.Await, ast.AnnAssign, ast.Nonlocal,
-    ast.Try, ast.With, ast.Match, ast.Lambda, ast.Yield, ast.YieldFrom, ast.Div, ast.MatMult,
-    ast.NamedExpr, ast.Starred,
+    ast.With, ast.Match, ast.Lambda, ast.YieldFrom, ast.Div, ast.MatMult, ast.NamedExpr, ast.Starred,
+    ast.GeneratorExp,
 )
 BUILTINS = {
     "len", "range", "enumerate", "zip", "min", "max", "sum", "abs", "sorted", "reversed", "int", "str", "bool",
@@ -90,6 +90,42 @@ class Code(unittest.TestCase):
                 self.assertNotIsInstance(node, BARRED_NODES, (name, getattr(node, "lineno", 0)))
                 if isinstance(node, ast.Constant):
                     self.assertNotIsInstance(node.value, (float, complex, bytes), name)
+
+    def test_handlers_name_errors_of_the_program(self):
+        tree = ast.parse((PACKAGE / "errors.py").read_text())
+        own = {row.name for row in tree.body if isinstance(row, ast.ClassDef)}
+        for name, tree in trees():
+            for node in ast.walk(tree):
+                if isinstance(node, ast.Try):
+                    self.assertEqual(node.finalbody, [], name)
+                    for handler in node.handlers:
+                        self.assertIsInstance(handler.type, ast.Name, name)
+                        self.assertIn(handler.type.id, own, (name, node.lineno))
+
+    def test_raised_errors_are_created_on_the_spot(self):
+        for name, tree in trees():
+            for node in ast.walk(tree):
+                if isinstance(node, ast.Raise) and node.exc is not None:
+                    self.assertIsInstance(node.exc, ast.Call, (name, node.lineno))
+                    self.assertIsInstance(node.exc.func, ast.Name, (name, node.lineno))
+
+    def test_generators(self):
+        names, generators = [], []
+        for name, tree in trees():
+            yields = [node for node in ast.walk(tree) if isinstance(node, ast.Yield)]
+            rows = [node.value for node in ast.walk(tree) if isinstance(node, ast.Expr)]
+            self.assertTrue(all(node in rows for node in yields), name)
+            for node in ast.walk(tree):
+                if isinstance(node, ast.FunctionDef):
+                    names.append(node.name)
+                    if any(part in yields for part in ast.walk(node)):
+                        generators.append(node.name)
+                        self.assertEqual(node.decorator_list, [], (name, node.name))
+                        self.assertFalse(any(isinstance(part, ast.Try) for part in ast.walk(node)), node.name)
+                elif isinstance(node, ast.Attribute) and isinstance(node.ctx, ast.Store):
+                    names.append(node.attr)
+        for name in generators:
+            self.assertEqual(names.count(name), 1, name)
 
     def test_imports(self):
         graph = {}

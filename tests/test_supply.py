@@ -9,6 +9,7 @@ from neverlate.supply import (
     least_start,
     least_supplies,
     least_supply,
+    supplies,
     supply,
     supply_of_first,
     table_share,
@@ -38,6 +39,10 @@ class Point19(unittest.TestCase):
     def test_supply_of_first(self):
         self.assertEqual([supply_of_first([2, 0, 1], slots) for slots in range(8)], [0, 2, 2, 3, 5, 5, 6, 8])
         self.assertEqual(supply_of_first([2, 0, 1], 3 * FAR + 1), 3 * FAR + 2)
+
+    def test_all_supplies_from_0(self):
+        self.assertEqual(supplies([2, 0, 1], 7), [0, 2, 2, 3, 5, 5, 6, 8])
+        self.assertEqual(supplies([2, 0, 1], 0), [0])
 
     def test_far_instants(self):
         self.assertEqual(supply([2, 0, 1], 3 * FAR, 3 * FAR + 1), 2)
