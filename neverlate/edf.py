@@ -37,7 +37,7 @@ class JobQueue:
         # The order of these tuples is that of earliest deadline first.
         self.jobs = []
 
-    def twin(self):
+    def copied(self):
         """Return a queue with the same jobs that goes its own way."""
         other = JobQueue()
         other.jobs = list(self.jobs)

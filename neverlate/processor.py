@@ -64,7 +64,7 @@ class Processor:
 
     def forecast(self, count, *, told=()):
         """Return what the next steps would return if these releases were told first."""
-        draft = self._twin()
+        draft = self._copied()
         for name, kind in told:
             draft.release(name, kind=kind)
         return [draft.step() for _ in range(count)]
@@ -74,18 +74,18 @@ class Processor:
         time = self.earliest(name, kind=kind)
         if time is None or time > self.time:
             return False
-        draft = self._twin()
+        draft = self._copied()
         draft.release(name, kind=kind)
         # Each job is done or late at the latest when its due has come, so this ends.
         while draft.late is None and draft._queue.jobs:
             draft.step()
         return draft.late is None
 
-    def _twin(self):
+    def _copied(self):
         """Return a processor in the same state that goes its own way."""
         other = Processor(self.system)
         other.time = self.time
         other.late = self.late
         other._told = self.history
-        other._queue = self._queue.twin()
+        other._queue = self._queue.copied()
         return other

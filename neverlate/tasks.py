@@ -70,6 +70,11 @@ class System:
                 return number
         raise UnknownName(task_name)
 
+    def task_at(self, number):
+        """Return the task of this number."""
+        self._check_number(number)
+        return self.tasks[number]
+
     def with_task(self, number, task):
         """Return a system with this task in the place of the task of this number."""
         self._check_number(number)

@@ -87,6 +87,37 @@ FUNCTIONS = {
         "check_miss": "(system, miss)",
     },
     "verdicts": {"verdict": "(system)", "is_never_late": "(system)"},
+    "gives": {
+        "trial": "(system, *, horizon)",
+        "most_cost": "(system, task_number, kind_name, *, horizon)",
+        "least_deadline": "(system, task_number, kind_name, *, horizon)",
+        "least_distance": "(system, task_number, way_number, *, horizon)",
+        "spare_capacity": "(system, *, horizon)",
+    },
+    "sets": {"can_live": "(system, numbers, *, horizon)", "cores": "(system, *, horizon)"},
+    "waiting": {"most_waiting": "(system, *, horizon)"},
+    "report": {
+        "task_table": "(system)",
+        "demand_table": "(system, *, length)",
+        "verdict_line": "(system, *, horizon)",
+        "report": "(system, *, horizon, length=10)",
+    },
+    "bench": {"decide": "(system, horizon)"},
+    "tables": {
+        "repeated": "(table, times)",
+        "rotated": "(table, by)",
+        "common_length": "(one, other)",
+        "common": "(one, other)",
+        "joined": "(one, other)",
+        "reduced": "(one, other)",
+        "shortest": "(table)",
+        "are_alike": "(one, other)",
+        "are_rotations": "(one, other)",
+        "least_rotation": "(table)",
+        "first_shortage": "(one, other)",
+        "dominates": "(one, other)",
+        "supply_bound": "(table)",
+    },
 }
 
 METHODS = {
@@ -119,6 +150,25 @@ METHODS = {
         "admits": "(self, name, *, kind)",
     },
     ("misses", "Miss"): {"__init__": "(self, instant, start, releases)"},
+    ("waiting", "Backlog"): {"__init__": "(self, work, instant, start, releases)"},
+    ("bench", "Workbench"): {
+        "__init__": "(self)",
+        "set_task": "(self, task)",
+        "remove_task": "(self, name)",
+        "set_table": "(self, name, table)",
+        "remove_table": "(self, name)",
+        "ask": "(self, name, *, tasks, table, horizon)",
+        "drop": "(self, name)",
+        "undo": "(self)",
+        "redo": "(self)",
+        "change_all": "(self, changes)",
+        "task_names": "(self)",
+        "table_names": "(self)",
+        "question_names": "(self)",
+        "system": "(self, name)",
+        "answer": "(self, name)",
+        "answers": "(self)",
+    },
 }
 
 PROPERTIES = {

@@ -23,10 +23,12 @@ BUILTINS = {
 }
 METHODS = {
     "append", "clear", "count", "endswith", "extend", "find", "get", "index", "insert", "items", "join", "keys",
-    "ljust", "pop", "remove", "replace", "reverse", "rjust", "setdefault", "split", "startswith", "strip",
+    "ljust", "pop", "remove", "replace", "reverse", "rjust", "rstrip", "setdefault", "split", "startswith", "strip",
     "update", "values", "zfill", "add", "discard",
 }
-LIBRARY = {("math", "gcd"), ("heapq", "heappush"), ("heapq", "heappop")}
+LIBRARY = {
+    ("math", "gcd"), ("math", "lcm"), ("heapq", "heappush"), ("heapq", "heappop"), ("itertools", "combinations"),
+}
 BARRED_NAMES = {
     "register", "mro", "elements", "open", "input", "law", "version_info", "with_traceback", "add_note",
     "type", "typing", "enum", "exec", "eval", "compile", "globals", "locals", "vars", "dir", "id", "help",
