@@ -26,8 +26,13 @@ def demands(task, length):
 
 def system_demands(system, length):
     """Return the demands of the system for the lengths 0, 1, .., `length`."""
+    return joint_demands(system.tasks, length)
+
+
+def joint_demands(tasks, length):
+    """Return the sums of the demands of the tasks for the lengths 0, 1, .., `length`."""
     totals = [0] * (length + 1)
-    for task in system.tasks:
+    for task in tasks:
         totals = [total + number for total, number in zip(totals, demands(task, length))]
     return totals
 

@@ -70,12 +70,16 @@ class JobQueue:
 
 def run(system, releases):
     """Return the outcome of earliest deadline first."""
+    return outcome_by(system, releases, JobQueue())
+
+
+def outcome_by(system, releases, queue):
+    """Return the outcome of serving the releases in the order of the queue, which is empty."""
     check_releases(system, releases)
     jobs = all_jobs(system, releases)
     arrivals = {}
     for job in jobs:
         arrivals.setdefault(job[1], []).append(job)
-    queue = JobQueue()
     slots = []
     for time in range(last_due(system, releases)):
         for job in arrivals.get(time, []):

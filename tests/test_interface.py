@@ -118,6 +118,41 @@ FUNCTIONS = {
         "dominates": "(one, other)",
         "supply_bound": "(table)",
     },
+    "servers": {
+        "server_table": "(*, period, budget, offset=0, capacity=1)",
+        "server_supply": "(*, period, budget, length, capacity=1)",
+        "needed_capacity": "(tasks, *, horizon)",
+        "needed_budget": "(tasks, *, period, horizon, capacity=1)",
+        "longest_period": "(tasks, *, share, horizon, longest)",
+    },
+    "assign": {
+        "is_safe": "(assignment, *, horizon)",
+        "assign": "(tasks, tables, *, horizon)",
+        "fewest_processors": "(tasks, table, *, horizon)",
+        "safe_moves": "(assignment, *, horizon)",
+    },
+    "policies": {
+        "run_policy": "(system, releases, *, policy='deadline')",
+        "run_fixed": "(system, releases, *, order)",
+        "late_by_policy": "(system, releases)",
+        "fixed_order": "(system, releases)",
+    },
+    "metrics": {
+        "response_times": "(releases, outcome)",
+        "latenesses": "(system, releases, outcome)",
+        "greatest_lateness": "(system, releases, outcome)",
+        "interruptions": "(outcome)",
+        "busy_intervals": "(outcome)",
+        "units_by_task": "(outcome)",
+        "unused_total": "(system, outcome)",
+        "full_slots": "(system, outcome)",
+        "backlog": "(system, releases, outcome)",
+    },
+    "traces": {
+        "format_trace": "(slots)",
+        "parse_trace": "(text)",
+        "replay": "(system, releases, text)",
+    },
 }
 
 METHODS = {
@@ -169,13 +204,25 @@ METHODS = {
         "answer": "(self, name)",
         "answers": "(self)",
     },
+    ("assign", "Assignment"): {
+        "__init__": "(self, tasks, tables, processors)",
+        "task_numbers": "(self, processor)",
+        "system": "(self, processor)",
+        "systems": "(self)",
+        "processor_of": "(self, task_name)",
+        "moved": "(self, task_name, processor)",
+    },
 }
 
 PROPERTIES = {
     ("tasks", "Task"): ["longest_distance", "latest_deadline"],
     ("edf", "Outcome"): ["on_time"],
     ("processor", "Processor"): ["history"],
+    ("assign", "Assignment"): ["used"],
 }
+
+# What the document calls a generator. Its call is iterated over, so it is no list.
+GENERATORS = [("processor", "Processor", "walk"), ("assign", "Assignment", "systems")]
 
 
 def module(name):
@@ -205,6 +252,11 @@ class Interface(unittest.TestCase):
             for word in properties:
                 with self.subTest((file, name, word)):
                     self.assertIsInstance(vars(getattr(module(file), name))[word], property)
+
+    def test_generators(self):
+        for file, name, method in GENERATORS:
+            with self.subTest((file, name, method)):
+                self.assertTrue(inspect.isgeneratorfunction(vars(getattr(module(file), name))[method]))
 
     def test_init_defines_nothing(self):
         tree = ast.parse((PACKAGE / "__init__.py").read_text())
