@@ -22,7 +22,7 @@ def most_cost(system, task_number, kind_name, *, horizon):
     name, present, deadline = task.kinds[number]
 
     def changed(cost):
-        return system.with_task(task_number, _with_kind(task, number, (name, cost, deadline)))
+        return system.with_task(task_number, with_kind(task, number, (name, cost, deadline)))
 
     return _last_good(list(range(present, MOST_UNITS + 1)), changed, horizon)
 
@@ -34,7 +34,7 @@ def least_deadline(system, task_number, kind_name, *, horizon):
     name, cost, present = task.kinds[number]
 
     def changed(deadline):
-        return system.with_task(task_number, _with_kind(task, number, (name, cost, deadline)))
+        return system.with_task(task_number, with_kind(task, number, (name, cost, deadline)))
 
     return _last_good(list(range(present, 0, -1)), changed, horizon)
 
@@ -60,7 +60,7 @@ def spare_capacity(system, *, horizon):
     return _last_good(list(range(min(system.table) + 1)), changed, horizon)
 
 
-def _with_kind(task, number, kind):
+def with_kind(task, number, kind):
     """Return the task with this kind in the place of the kind of this number."""
     kinds = list(task.kinds)
     kinds[number] = kind

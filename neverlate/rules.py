@@ -8,6 +8,7 @@ MOST_WAYS = 16
 MOST_TASKS = 6
 LONGEST_TABLE = 1001
 MOST_CAPACITY = 1000000
+GREATEST_HORIZON = 1000
 
 
 def is_integer(value, low, high):

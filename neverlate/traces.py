@@ -2,9 +2,7 @@
 
 from neverlate.errors import InvalidNotation
 from neverlate.schedules import late_by
-from neverlate.words import read_number
-
-MOST_DIGITS = 60
+from neverlate.words import MOST_DIGITS, read_number
 
 
 def format_trace(slots):

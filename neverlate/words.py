@@ -1,6 +1,8 @@
 """Numbers that are written as words."""
 
 DIGITS = "0123456789"
+# Numbers in traces and certificates may have so many digits.
+MOST_DIGITS = 60
 
 
 def read_number(word, most_digits):

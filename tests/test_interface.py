@@ -153,6 +153,32 @@ FUNCTIONS = {
         "parse_trace": "(text)",
         "replay": "(system, releases, text)",
     },
+    "standin": {
+        "first_excess": "(one, other, *, horizon)",
+        "lasting_kinds": "(task)",
+        "check_stand_in": "(one, other, *, step, horizon)",
+        "stand_in_step": "(one, other, *, horizon)",
+        "may_stand": "(one, other, *, horizon)",
+        "splittings": "(task, length)",
+        "part_at": "(task, length)",
+        "part_system": "(task, part)",
+    },
+    "certificates": {
+        "certificate": "(system, *, horizon)",
+        "check_certificate": "(system, text)",
+    },
+    "plans": {
+        "plan_table": "(tasks, length, *, horizon)",
+        "check_plan": "(tasks, length, plan)",
+        "trim_table": "(system, *, horizon)",
+    },
+    "growth": {"joint_costs": "(system, first, second, *, horizon)"},
+    "commands": {
+        "split_words": "(line)",
+        "is_number": "(word)",
+        "is_command": "(words)",
+        "is_block_line": "(words)",
+    },
 }
 
 METHODS = {
@@ -212,6 +238,9 @@ METHODS = {
         "processor_of": "(self, task_name)",
         "moved": "(self, task_name, processor)",
     },
+    ("standin", "Part"): {"__init__": "(self, length, cost, table)"},
+    ("plans", "Plan"): {"__init__": "(self, total, table, lengths)"},
+    ("session", "Session"): {"__init__": "(self)", "run": "(self, text)"},
 }
 
 PROPERTIES = {
