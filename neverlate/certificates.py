@@ -26,7 +26,8 @@ def certificate(system, *, horizon):
     if decisive is not None and decisive <= horizon:
         return _bounds_text(system)
     # The horizon decides the system, so its rows come round there.
-    return f"never rounds {rounds(system, horizon=horizon)} {horizon}"
+    step = rounds(system, horizon=horizon)
+    return f"never rounds {step} {horizon}"
 
 
 def check_certificate(system, text):

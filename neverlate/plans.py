@@ -50,7 +50,7 @@ def trim_table(system, *, horizon):
         return None
     wanted = system_demands(system, horizon)
     table = list(system.table)
-    for slot in range(len(table)):
+    for slot in range(len(system.table)):
         table[slot] -= _spare_units(table, slot, wanted)
     if trial(system.with_table(table), horizon=horizon) == "undecided":
         raise Undecided(horizon)

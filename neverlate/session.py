@@ -2,9 +2,8 @@
 
 from neverlate.bench import Workbench
 from neverlate.commands import is_block_line, is_command, split_words
-from neverlate.errors import (
-    InvalidSystem, InvalidTable, InvalidTask, NameInUse, NothingToRedo, NothingToUndo, UnknownName,
-)
+from neverlate.errors import InvalidSystem, InvalidTable, InvalidTask, NameInUse
+from neverlate.errors import NothingToRedo, NothingToUndo, UnknownName
 from neverlate.notation import format_system
 from neverlate.tasks import Task
 
